@@ -1,0 +1,1 @@
+"""A car brought by the fewest shifts: fewestshifts.hall.answers(calls) is the way in."""
