@@ -11,6 +11,11 @@ def least_price(prices, places):
     return min(known, default=-1)
 
 
+def least_by_cell(prices, cell_count):
+    """For each of the car's cells the least price of the places there; -1 if none has one."""
+    return [min([row[cell] for row in prices if row[cell] >= 0], default=-1) for cell in range(cell_count)]
+
+
 def first_least_row(maze, prices, places):
     """The first in order of all rows that lead from one of these places to price 0 by the fewest shifts.
 

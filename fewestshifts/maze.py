@@ -1,5 +1,7 @@
 """Places: how shifts lead from one to another, and the prices of all of them for a wish."""
 
+MOST_HOLES = 3
+
 
 class Maze:
     """All places of a plan with equally many holes.
@@ -11,6 +13,7 @@ class Maze:
 
     def __init__(self, neighbours, hole_count):
         self.cell_count = len(neighbours)
+        self.hole_count = hole_count
         self.masks = [mask_of(row) for row in rising_rows(self.cell_count, hole_count)]
         self.numbers = dict([(mask, number) for number, mask in enumerate(self.masks)])
         self.shifts = [self.shifts_from(neighbours, mask) for mask in self.masks]
@@ -27,6 +30,23 @@ class Maze:
 
     def place(self, car, holes):
         return (car, self.numbers[mask_of(holes)])
+
+    def place_told(self, numbers):
+        """The place that the numbers tell; None if they tell none with as many holes."""
+        if len(numbers) != 1 + self.hole_count or not is_place(self.cell_count, numbers[0], numbers[1:]):
+            return None
+        return self.place(numbers[0], numbers[1:])
+
+    def tell(self, place):
+        """The numbers that tell a place: the car's cell and the holes, rising."""
+        return [place[0]] + cells_of(self.masks[place[1]])
+
+    def all_places(self):
+        """All places, in order."""
+        listed = []
+        for car in range(self.cell_count):
+            listed.extend([(car, number) for number, mask in enumerate(self.masks) if mask >> car & 1 == 0])
+        return listed
 
     def steps(self, place):
         """The shifts from a place in order, each as its two cells and the place it leads to."""
@@ -59,6 +79,13 @@ class Maze:
                 layer[number] = cars
         return layer
 
+    def meeting_places(self, goals, wanted):
+        """The places that meet the wish, in order."""
+        listed = []
+        for number, cars in self.places_that_meet(goals, wanted).items():
+            listed.extend([(car, number) for car in cells_of(cars)])
+        return sorted(listed)
+
     def next_layer(self, layer, unpriced):
         """The unpriced places one shift away from the layer's; they are taken out of unpriced.
 
@@ -75,6 +102,14 @@ class Maze:
                     unpriced[after] -= moved
                     following[after] = following.get(after, 0) | moved
         return following
+
+
+def is_place(cell_count, car, holes):
+    if not 1 <= len(holes) <= MOST_HOLES or car in holes:
+        return False
+    if any([cell >= cell_count for cell in [car] + holes]):
+        return False
+    return holes == sorted(set(holes))
 
 
 def mask_of(cells):

@@ -18,9 +18,16 @@ class State:
         self.standing = None
         self.mazes = {}
 
+    def holes_now(self):
+        """How many cells are empty now."""
+        return len(empty_cells(self.standing))
+
     def maze(self):
-        """The maze of all places with as many holes as there are empty cells now."""
-        hole_count = len(empty_cells(self.standing))
+        """The maze of all places with as many holes as there are now."""
+        return self.maze_with(self.holes_now())
+
+    def maze_with(self, hole_count):
+        """The maze of all places with so many holes."""
         if hole_count not in self.mazes:
             self.mazes[hole_count] = Maze(self.plan.neighbours, hole_count)
         return self.mazes[hole_count]
@@ -37,4 +44,9 @@ class State:
         return list(told_goals) if told_goals else list(self.plan.cabins)
 
     def prices_for(self, told_goals, wanted):
-        return self.maze().prices_for(self.goals(told_goals), wanted)
+        """The prices of the places with as many holes as there are now."""
+        return self.prices_with(self.holes_now(), told_goals, wanted)
+
+    def prices_with(self, hole_count, told_goals, wanted):
+        """The prices of the places with so many holes."""
+        return self.maze_with(hole_count).prices_for(self.goals(told_goals), wanted)

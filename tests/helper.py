@@ -71,6 +71,46 @@ def price_all(goals=(), free=()):
     return call(10, goals, free)
 
 
+def nearest(goals=(), free=()):
+    return call(11, goals, free)
+
+
+def map_of(pallet):
+    return call(12, pallet)
+
+
+def price(car, holes, goals=(), free=()):
+    return call(13, car, holes, goals, free)
+
+
+def spread(hole_count, goals=(), free=()):
+    return call(14, hole_count, goals, free)
+
+
+def hardest(hole_count, goals=(), free=()):
+    return call(15, hole_count, goals, free)
+
+
+def stuck(hole_count, goals=(), free=()):
+    return call(16, hole_count, goals, free)
+
+
+def cell_of(cell, hole_count, goals=(), free=()):
+    return call(17, cell, hole_count, goals, free)
+
+
+def known(pallet, goals=(), free=()):
+    return call(18, pallet, goals, free)
+
+
+def check(pallet, limit, goals, free, row):
+    return call(19, pallet, limit, goals, free, row)
+
+
+def shut(pallet, goals, free, row):
+    return call(20, pallet, goals, free, row)
+
+
 def ask(*calls):
     """The answers to calls on one object, each a list of its own."""
     numbers = answers(list(itertools.chain(*calls)))
@@ -87,6 +127,14 @@ def ask(*calls):
 
 def ask_last(*calls):
     return ask(*calls)[-1]
+
+
+def ask_each(start, calls):
+    """The answer to each call behind the calls of the start, as many in one list as one may have."""
+    listed = []
+    for at in range(0, len(calls), 24):
+        listed += ask(*start, *calls[at:at + 24])[len(start):]
+    return listed
 
 
 def pairs(numbers):
@@ -189,6 +237,63 @@ class Yard:
             layer = following
         return prices
 
+    def places(self, hole_count):
+        """All places with so many holes in order, each as the numbers that tell it."""
+        rows = itertools.combinations(range(self.size), hole_count)
+        return sorted([car, *holes] for holes in rows for car in range(self.size) if car not in holes)
+
+    def listed_prices(self, hole_count, goals, free):
+        """The prices of all places with so many holes, in the order of the places; -1 for none."""
+        prices = self.prices(hole_count, goals, free)
+        return [prices.get((place[0], frozenset(place[1:])), -1) for place in self.places(hole_count)]
+
+    def leads_in_order(self, place):
+        """The shifts from a place in order, each with the numbers that tell the place behind it."""
+        standing = [0 if cell in place[1:] else 1 if cell == place[0] else 2 for cell in range(self.size)]
+        for shift in self.shifts(standing):
+            after = self.after(standing, shift)
+            yield shift, [after.index(1)] + [cell for cell in range(self.size) if after[cell] == 0]
+
+    def told_place(self, standing, pallet):
+        return [list(standing).index(pallet)] + [cell for cell in range(self.size) if standing[cell] == 0]
+
+    def judge_check(self, standing, pallet, limit, goals, free, row):
+        """What check answers, behind all refusals but -6, by the words alone."""
+        places = self.places(list(standing).count(0))
+        length = list(standing).count(0) + 2
+        entries = [row[at:at + length] for at in range(0, len(row), length)]
+        for number, entry in enumerate(entries):
+            if len(entry) < length or entry[:-1] not in places or entry[-1] >= limit:
+                return [-6, number]
+            if entry[:-1] in [before[:-1] for before in entries[:number]]:
+                return [-6, number]
+        return self.judge(standing, pallet, goals, free, entries, limit)
+
+    def judge_shut(self, standing, pallet, goals, free, row):
+        """What shut answers, behind all refusals but -6."""
+        places = self.places(list(standing).count(0))
+        length = list(standing).count(0) + 1
+        entries = [row[at:at + length] for at in range(0, len(row), length)]
+        for number, entry in enumerate(entries):
+            if len(entry) < length or entry not in places or entry in entries[:number]:
+                return [-6, number]
+        # Without an entry is as good as dearer than anything.
+        return self.judge(standing, pallet, goals, free, [entry + [0] for entry in entries], 10 ** 9)
+
+    def judge(self, standing, pallet, goals, free, entries, limit):
+        told = {tuple(entry[:-1]): entry[-1] for entry in entries}
+        if tuple(self.told_place(standing, pallet)) in told:
+            return [0, 0, 1]
+        for place in self.places(list(standing).count(0)):
+            meets = place[0] in (goals or self.cabins) and set(free) <= set(place[1:])
+            if meets and told.get(tuple(place), limit) != 0:
+                return [0, 0, 2, *place]
+        for number, entry in enumerate(entries):
+            for shift, after in self.leads_in_order(entry[:-1]):
+                if told.get(tuple(after), limit) > entry[-1] + 1:
+                    return [0, 0, 3, number, *shift]
+        return [0, 1]
+
     def place(self, standing, pallet):
         return (list(standing).index(pallet), frozenset(cell for cell in range(self.size) if standing[cell] == 0))
 
@@ -203,6 +308,20 @@ class Yard:
                         following[after] = following.get(after, 0) + count
             counts = following
         return sum(counts.values())
+
+
+SMALL_PLANS = (park("C."), park("C.."), park("C. .."), park("C#C ..."), park("CL", ".L"), park(".C. #.#"),
+               park("LC", "L.", "L."), park("C.. ..."), park("CL .L", "#L ##"))
+
+
+def random_case(dice, yard):
+    """A standing and a wish that can be with it."""
+    hole_count = dice.randint(1, min(3, yard.size - 1))
+    return random_standing(dice, yard.size, hole_count), *random_wish(dice, yard, hole_count)
+
+
+def some_pallet(dice, numbers):
+    return dice.choice([pallet for pallet in numbers if pallet])
 
 
 def random_standing(dice, size, hole_count):

@@ -1,4 +1,4 @@
-"""The maze's rows of holes and shifts, whose order the calls rely on."""
+"""The maze's rows of holes, places and shifts, whose order the calls rely on."""
 
 import itertools
 import unittest
@@ -19,6 +19,26 @@ class Order(unittest.TestCase):
         rows = [[0, 1, 2], [0, 1, 3], [0, 2, 3], [1, 0, 2], [1, 2, 3], [2, 0, 1], [2, 0, 3], [3, 1, 2]]
         places = [maze.place(row[0], row[1:]) for row in rows]
         self.assertEqual(places, sorted(places))
+
+    def test_all_places_and_their_numbers(self):
+        yard = Yard(park("CL. ...", "#L. ..#"))
+        for hole_count in (1, 2, 3):
+            maze = Maze([sorted(cells) for cells in yard.near], hole_count)
+            places = maze.all_places()
+            self.assertEqual(places, sorted(places))
+            self.assertEqual([maze.tell(place) for place in places], yard.places(hole_count))
+            self.assertEqual([maze.place_told(maze.tell(place)) for place in places], places)
+
+    def test_places_that_meet_a_wish(self):
+        maze = Maze([[1], [0, 2], [1, 3], [2]], 2)
+        told = [maze.tell(place) for place in maze.meeting_places([3, 1], [2])]
+        self.assertEqual(told, [[1, 0, 2], [1, 2, 3], [3, 0, 2], [3, 1, 2]])
+        self.assertEqual(maze.meeting_places([2], [2]), [])
+
+    def test_numbers_that_tell_no_place(self):
+        maze = Maze([[1], [0, 2], [1, 3], [2]], 2)
+        for numbers in ([], [0], [0, 1], [0, 1, 2, 3], [0, 0, 1], [0, 2, 1], [0, 1, 1], [4, 0, 1], [0, 1, 4]):
+            self.assertIsNone(maze.place_told(numbers))
 
     def test_steps_are_in_order(self):
         yard = Yard(park("CL. ...", "#L. ..#"))

@@ -3,24 +3,14 @@
 import random
 import unittest
 
-from tests.helper import (GREATEST, MODULUS, Yard, ask, ask_last, fetch, firsts, flat, load, pairs, park, price_all,
-                          random_standing, random_wish, run, stand, told, ways, weigh)
+from tests.helper import (GREATEST, MODULUS, SMALL_PLANS, Yard, ask, ask_last, fetch, firsts, flat, load, pairs, park,
+                          price_all, random_case, random_standing, random_wish, run, some_pallet, stand, told, ways,
+                          weigh)
 
-SMALL_PLANS = (park("C."), park("C.."), park("C. .."), park("C#C ..."), park("CL", ".L"), park(".C. #.#"),
-               park("LC", "L.", "L."), park("C.. ..."), park("CL .L", "#L ##"))
 SQUARE = park("C. ..")
 GRID = park("C.... ..... ..... .....")
 TREE = park("..C..... .#.#.#.# .#.#.#.#")
 TOWER = park("LLC L##", "LLL L#L", "LLL L#L", "LLL LL.")
-
-
-def random_case(dice, yard):
-    hole_count = dice.randint(1, min(3, yard.size - 1))
-    return random_standing(dice, yard.size, hole_count), *random_wish(dice, yard, hole_count)
-
-
-def some_pallet(dice, numbers):
-    return dice.choice([pallet for pallet in numbers if pallet])
 
 
 class Firsts(unittest.TestCase):
